@@ -33,6 +33,7 @@ METHODS = set(
     "casefold center expandtabs removeprefix removesuffix rindex isascii isdecimal isnumeric istitle isidentifier "
     "isprintable encode decode hex fromhex to_bytes from_bytes translate maketrans sort add discard".split()
 )
+CHANGES = set("append clear extend insert pop remove reverse setdefault update sort add discard".split())
 NO_NODES = (
     (ast.With, "L6"), (ast.Match, "L6"), (ast.Global, "L6"), (ast.Nonlocal, "L6"), (ast.Yield, "L6"),
     (ast.YieldFrom, "L6"), (ast.AsyncFunctionDef, "L6"), (ast.AsyncFor, "L6"), (ast.AsyncWith, "L6"),
@@ -161,10 +162,75 @@ def expression_faults(node, own_methods):
     return faults
 
 
+def shadow_faults(tree):
+    """Parameters, locals and defs within defs that are called like a class or an import of the file."""
+    tops = {node.name for node in tree.body if isinstance(node, ast.ClassDef)}
+    for node in tree.body:
+        if isinstance(node, ast.ImportFrom):
+            tops |= {alias.asname or alias.name for alias in node.names}
+    faults = []
+    for node in ast.walk(tree):
+        if isinstance(node, (ast.FunctionDef, ast.Lambda)):
+            inner = list(ast.walk(node))[1:]
+            names = [one.arg for one in inner if isinstance(one, ast.arg)]
+            names += [one.id for one in inner if isinstance(one, ast.Name) and isinstance(one.ctx, ast.Store)]
+            names += [one.name for one in inner if isinstance(one, ast.FunctionDef)]
+            faults += ["L15" for name in names if name in tops]
+    return faults
+
+
+def lazy(node):
+    """Whether a node makes what is to be walked on the spot."""
+    if not isinstance(node, ast.Call):
+        return False
+    if isinstance(node.func, ast.Name):
+        return node.func.id in ("zip", "enumerate", "reversed", "range")
+    return isinstance(node.func, ast.Attribute) and node.func.attr in ("items", "keys", "values")
+
+
+def walk_faults(tree):
+    """What is not walked at once, and loops that change what they walk."""
+    walkers = "list tuple dict sorted sum any all enumerate zip bytes min max join".split()
+    let, faults = [], []
+    for node in ast.walk(tree):
+        if isinstance(node, (ast.For, ast.comprehension)):
+            let.append(node.iter)
+        if isinstance(node, ast.Call) and node.args and {*names_of(node.func)} & {*walkers}:
+            let.append(node.args[0])
+        if isinstance(node, ast.For):
+            changes = [
+                ast.dump(one.func.value) for row in node.body for one in ast.walk(row)
+                if isinstance(one, ast.Call) and isinstance(one.func, ast.Attribute) and one.func.attr in CHANGES]
+            faults += ["L23" for one in ast.walk(node.iter) if ast.dump(one) in changes]
+    return faults + ["L23" for node in ast.walk(tree) if lazy(node) and not any(node is one for one in let)]
+
+
+def takes(node):
+    """The least and the most things that a def is handed."""
+    many = len(node.args.args) + len(node.args.kwonlyargs)
+    return many - len(node.args.defaults) - len([one for one in node.args.kw_defaults if one]), many
+
+
+def call_faults(tree, defs, methods):
+    """Calls of own defs, classes and methods that hand in more or less than these take."""
+    faults = []
+    for node in ast.walk(tree):
+        if isinstance(node, ast.Call):
+            many = len(node.args) + len(node.keywords)
+            if isinstance(node.func, ast.Name) and node.func.id in defs:
+                least, most = defs[node.func.id]
+                faults += [] if least <= many <= most else ["L22"]
+            if isinstance(node.func, ast.Attribute) and node.func.attr in methods:
+                least, most = methods[node.func.attr]
+                faults += [] if least <= many + 1 <= most else ["L22"]
+    return faults
+
+
 def rule_faults(text, own_methods=frozenset()):
     """The numbers of the rules that a file breaks."""
     tree = ast.parse(text)
     faults = size_faults(text, tree) + sign_faults(text) + top_faults(tree) + import_faults(tree)
+    faults += shadow_faults(tree) + walk_faults(tree)
     for node in ast.walk(tree):
         faults += name_faults(node) + expression_faults(node, own_methods)
         if isinstance(node, ast.ClassDef):
@@ -184,11 +250,25 @@ def package_files():
 
 
 def methods_of(files):
-    return {
-        row.name
-        for text in files.values() for node in ast.parse(text).body if isinstance(node, ast.ClassDef)
-        for row in node.body if isinstance(row, ast.FunctionDef)
-    }
+    return {row.name for node, row in rows_of_classes(files) if isinstance(row, ast.FunctionDef)}
+
+
+def rows_of_classes(files):
+    """(class, row) for all that stands in the package's classes."""
+    nodes = [node for text in files.values() for node in ast.parse(text).body]
+    return [(node, row) for node in nodes if isinstance(node, ast.ClassDef) for row in node.body]
+
+
+def values_of(files):
+    """The values that are given to objects, and those that are asked of them, as two sets of names."""
+    given, asked = set(), set()
+    for text in files.values():
+        nodes = list(ast.walk(ast.parse(text)))
+        called = [node.func for node in nodes if isinstance(node, ast.Call)]
+        for node in nodes:
+            if isinstance(node, ast.Attribute) and not any(node is one for one in called):
+                (asked if isinstance(node.ctx, ast.Load) else given).add(node.attr)
+    return given, asked
 
 
 def drawn_from(text):
@@ -220,6 +300,24 @@ class PackageTests(unittest.TestCase):
         for name, text in files.items():
             with self.subTest(name):
                 self.assertEqual(rule_faults(text, methods_of(files)), [])
+
+    def test_no_name_is_a_method_here_and_a_value_there(self):
+        files = package_files()
+        given, asked = values_of(files)
+        self.assertEqual(given & methods_of(files), set())
+        self.assertEqual(asked - given, set())
+
+    def test_each_call_hands_in_what_is_taken(self):
+        files = package_files()
+        tops = [node for text in files.values() for node in ast.parse(text).body]
+        defs = {node.name: takes(node) for node in tops if isinstance(node, ast.FunctionDef)}
+        rows = [(node, row) for node, row in rows_of_classes(files) if isinstance(row, ast.FunctionDef)]
+        made = {node.name: takes(row) for node, row in rows if row.name == "__init__"}
+        defs.update({name: (least - 1, most - 1) for name, (least, most) in made.items()})
+        methods = {row.name: takes(row) for node, row in rows if row.name != "__init__"}
+        for name, text in files.items():
+            with self.subTest(name):
+                self.assertEqual(call_faults(ast.parse(text), defs, methods), [])
 
     def test_names_are_drawn_from_the_file_that_defines_them(self):
         files = package_files()
@@ -255,12 +353,31 @@ class SampleTests(unittest.TestCase):
         ("L19", "def f(x):\n    try:\n        return x[0]\n    except Exception:\n        return 0\n"),
         ("L20", "def f(x, y):\n    return x is y\n"), ("L25", "def f(x):\n    return x.popitem()\n"),
         ("L27", "NAME = '5 %'\n"), ("L27", "NAME = '\\x41'\n"),
+        ("L15", "from wayhold.errors import Full\ndef f(Full):\n    return Full\n"),
+        ("L15", "from wayhold.clocks import local\ndef f(x):\n    local = x\n    return local\n"),
+        ("L15", "class A:\n    pass\ndef f(x):\n    return [A for A in x]\n"),
+        ("L23", "def f(x):\n    y = x.items()\n    return y\n"), ("L23", "def f(x):\n    return range(x)\n"),
+        ("L23", "def f(x):\n    for k in x:\n        x.append(k)\n"),
+        ("L23", "def f(x):\n    for k, y in x.items():\n        x.pop(k)\n"),
+        ("L23", "def f(x):\n    return len(zip(x, x))\n"),
     )
 
     def test_each_sample_is_found(self):
         for rule, text in self.samples:
             with self.subTest(rule=rule, text=text):
                 self.assertIn(rule, rule_faults(text))
+
+    def test_calls_with_more_or_less_are_found(self):
+        for call in ("g(1)", "g(1, 2, 3)", "x.h()", "x.h(1, 2)", "g()"):
+            tree = ast.parse("def f(x):\n    return " + call + "\n")
+            self.assertEqual(call_faults(tree, {"g": (2, 2)}, {"h": (2, 2)}), ["L22"])
+        tree = ast.parse("def f(x):\n    return g(1, two=2) + x.h(one=1) + x.other(1, 2, 3)\n")
+        self.assertEqual(call_faults(tree, {"g": (2, 2)}, {"h": (2, 2)}), [])
+
+    def test_values_given_and_asked_are_told_apart(self):
+        files = {"a.py": "class A:\n    def b(self):\n        self.c = self.d.b()\n"}
+        self.assertEqual(values_of(files), ({"c"}, {"d"}))
+        self.assertEqual(methods_of(files), {"b"})
 
     def test_plain_code_is_let(self):
         text = '"""Words."""\n\nfrom wayhold.errors import WayError\n\nMANY = 3\n\n\ndef f(x, *, y=MANY):\n' \

@@ -1,6 +1,7 @@
 """Rides, tuples (number, start, goal, leaves, comes), and how they hang on one another."""
 
 # What stands where in a ride.
+NUMBER = 0
 START = 1
 GOAL = 2
 LEAVES = 3

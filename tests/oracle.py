@@ -1,7 +1,6 @@
 """What the tests reckon by the document's own words, slowly: rows one by one, papers, and a plain book."""
 
 import copy
-import unittest
 
 from wayhold import errors
 
@@ -315,104 +314,29 @@ class PlainBook:
         start, goal, legs = self.now["journey"][name]
         if self.fault(legs) is None:
             return list(legs)
-        stay = [ride for ride in self.stands(name) if ride[3] <= now]
-        since = now + 1
-        if stay:
-            start = stay[-1][2]
-            since = max(since, stay[-1][4] + self.spans()[start])
-        let = [run for run in range(self.many()) if self.free(run) > 0 or run in legs]
-        rides = [self.goes(run) for run in let if self.goes(run) is not None]
-        kept = [run for run in legs if run not in [ride[0] for ride in stay]]
+        stay, start, since = self.goes_on(name, now)
+        kept = [run for run in legs if run not in stay]
         shared = [run for run in kept if run in [one for other, one in self.shared(name)]]
-        more = least_by_rows(rides, self.spans(), start, goal, since, kept, shared)
-        return None if more is None else [ride[0] for ride in stay] + more
+        # Rows one by one as long as there are few runs.
+        least = least_by_rows if self.many() <= 12 else least_by_reach
+        more = least(self.rides_for(name), self.spans(), start, goal, since, kept, shared)
+        return None if more is None else stay + more
+
+    def goes_on(self, name, now):
+        """The runs that stay, the place and the moment from which [16] goes on."""
+        stay = [ride for ride in self.stands(name) if ride[3] <= now]
+        if not stay:
+            return [], self.now["journey"][name][0], now + 1
+        place = stay[-1][2]
+        return [ride[0] for ride in stay], place, max(now + 1, stay[-1][4] + self.spans()[place])
+
+    def rides_for(self, name):
+        """The rides of [16]."""
+        let = [run for run in range(self.many()) if self.free(run) > 0 or run in self.now["journey"][name][2]]
+        return [self.goes(run) for run in let if self.goes(run) is not None]
 
     def log(self):
         return list(self.done)
 
     def to_redo(self):
         return [deed for deed, state in reversed(self.undone)]
-
-
-# What can be seen of a book.
-
-NAMES = ("j0", "j1", "j2", "j3", "j4", "j5", "j6", "j7", "j8", "j9", "j10", "j11", "nobody")
-
-
-def answer(ask, *args):
-    """What is answered, or the refusal with its fields."""
-    try:
-        return ("told", ask(*args))
-    except errors.WayError as error:
-        return ("refused", type(error).__name__, vars(error))
-
-
-def deeds_to_come(book):
-    """What redo would do, one behind the other, asked of a twin."""
-    if isinstance(book, PlainBook):
-        return book.to_redo()
-    twin, found = book.twin(), []
-    while True:
-        try:
-            found.append(twin.redo())
-        except errors.NoDeed:
-            return found
-
-
-def seen(book, names=NAMES, moments=(), stamps=(-1, 0, 1)):
-    """All that the questions tell."""
-    found = [("many", book.many()), ("spans", book.spans()), ("log", book.log())]
-    for run in range(book.many()):
-        for ask in (book.told, book.goes, book.reports, book.free):
-            found.append((ask.__name__, run, ask(run)))
-        found += [("known", run, stamp, book.known(run, stamp)) for stamp in stamps]
-    for name in names:
-        for ask in (book.shared, book.beds, book.wanted):
-            found.append((ask.__name__, name, answer(ask, name)))
-        found += [("mended", name, moment, answer(book.mended, name, moment)) for moment in moments]
-    return found
-
-
-def whole(book):
-    """All that can be seen of a book, of any names in it, and what can be done again."""
-    names = sorted({deed[1] for deed in book.log() if deed[0] == "journey"}) + ["nobody"]
-    return seen(book, names, (-50000, 0, 110)), deeds_to_come(book)
-
-
-class BookCase(unittest.TestCase):
-    def refused(self, error, deed, *args, **fields):
-        """The very refusal, with its fields; nothing has changed by it."""
-        book = deed.__self__
-        before = whole(book)
-        with self.assertRaises(error) as caught:
-            deed(*args)
-        self.assertIs(type(caught.exception), error, (deed.__name__, args))
-        self.assertEqual(vars(caught.exception), fields)
-        self.assertEqual(whole(book), before)
-
-    def unchanged(self, ask, *args):
-        """What a question tells; nothing has changed by it, nor by changing what it told."""
-        book = ask.__self__
-        before = whole(book)
-        told = ask(*args)
-        self.assertEqual(whole(book), before)
-        if isinstance(told, list):
-            kept = list(told)
-            told.append("more")
-            told[0] = "other"
-            told = kept
-        if isinstance(told, dict):
-            kept = dict(told)
-            told.clear()
-            told["more"] = 7
-            told = kept
-        self.assertEqual(ask(*args), told)
-        self.assertEqual(whole(book), before)
-        return told
-
-
-def four_places(book):
-    """a, b, c and d: d's clock goes with the one for all, b's is ahead, c's is behind; changes take 5, 10, 0, 0."""
-    for name, ahead, span in (("a", 0, 5), ("b", 60, 10), ("c", -60, 0), ("d", 0, 0)):
-        book.place(name, ahead, span)
-    return book

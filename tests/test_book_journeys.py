@@ -2,7 +2,7 @@
 
 import unittest
 
-from oracle import BookCase, four_places
+from cases import BookCase, four_places, night_book
 from wayhold.book import Book
 from wayhold.errors import (
     Astray, BadName, Broken, Full, NoBed, NoJourney, NoLeg, NoPlace, NoRun, NoShare, NoWay, Taken, Twice)
@@ -246,15 +246,6 @@ class DropTests(BookCase):
             self.refused(NoJourney, book.mended, name, 0)
             for ask in (book.shared, book.beds, book.wanted, book.settle):
                 self.refused(NoJourney, ask, name)
-
-
-def night_book():
-    """Waits over nights at b, whose clock is 60 ahead, and at c, whose clock is 60 behind."""
-    book = four_places(Book())
-    for row in (("a", "b", 0, 100, 9), ("b", "c", 2819, 2900, 9), ("c", "d", 4380, 4400, 9), ("b", "c", 2820, 2900, 9)):
-        book.run(*row)
-    book.journey("x", "a", "d", [0, 1, 2])
-    return book
 
 
 class BedTests(BookCase):

@@ -2,7 +2,7 @@
 
 import unittest
 
-from oracle import BookCase, deeds_to_come, four_places, seen, whole
+from cases import BookCase, deeds_to_come, do, done, four_places, seen, whole
 from wayhold.book import Book
 from wayhold.errors import NoDeed, NoJourney, NoShare, NoWay, Taken, WayError
 
@@ -21,18 +21,6 @@ DEEDS = (
     ("drop", "x"), ("journey", "x", "a", "c", (3,)), ("drop", "z"), ("run", "c", "a", 5, 6, 1), ("turn", "x", (3,)),
 )
 KINDS = {"place", "run", "news", "journey", "turn", "drop", "share", "unshare", "bed", "unbed", "settle", "mend"}
-
-
-def do(book, deed):
-    """Does a deed as the log tells it."""
-    return getattr(book, deed[0])(*[list(part) if isinstance(part, tuple) else part for part in deed[1:]])
-
-
-def done(deeds):
-    book = Book()
-    for deed in deeds:
-        do(book, deed)
-    return book
 
 
 class LogTests(BookCase):

@@ -3,32 +3,12 @@
 import random
 import unittest
 
-from oracle import BookCase, PlainBook, four_places
+from cases import BookCase, book_to_mend, four_places
+from oracle import PlainBook
 from wayhold.book import Book
 from wayhold.errors import NoJourney, NoWay
 
 FAR = 10 ** 39 + 4321
-RUNS = (
-    ("a", "b", 0, 100, 9),        # 0
-    ("b", "c", 110, 200, 9),      # 1
-    ("c", "d", 210, 300, 9),      # 2
-    ("b", "c", 130, 220, 9),      # 3: behind it 4 alone
-    ("c", "d", 230, 320, 9),      # 4
-    ("a", "d", 150, 400, 1),      # 5
-    ("b", "d", 150, 500, 1),      # 6
-    ("b", "c", 110, 190, 1),      # 7: instead of 1
-)
-
-
-def usual_book(*gone):
-    """The journey x by 0, 1, 2, and the runs told gone behind its booking."""
-    book = four_places(Book())
-    for row in RUNS:
-        book.run(*row)
-    book.journey("x", "a", "d", [0, 1, 2])
-    for run in gone:
-        book.news(run, 0, "gone", 0)
-    return book
 
 
 class MendTests(BookCase):
@@ -58,43 +38,43 @@ class MendTests(BookCase):
 
     def test_without_a_fault_its_own_legs(self):
         for now in (-FAR, -1, 0, 109, 110, 5000, FAR):
-            self.assert_mended(usual_book(), now, [0, 1, 2])
-            self.assert_mended(usual_book(3, 4, 5, 6, 7), now, [0, 1, 2])
+            self.assert_mended(book_to_mend(), now, [0, 1, 2])
+            self.assert_mended(book_to_mend(3, 4, 5, 6, 7), now, [0, 1, 2])
         book = four_places(Book())
         book.journey("x", "a", "a", [])
         for now in (-FAR, 0, FAR):
             self.assert_mended(book, now, [])
 
     def test_legs_that_nobody_could_better_stay_even_where_others_come_sooner(self):
-        book = usual_book()
+        book = book_to_mend()
         book.run("a", "d", 0, 1, 9)
         self.assert_mended(book, -1, [0, 1, 2])
 
     def test_ahead_of_at_and_behind_each_leaving(self):
         for now, runs in ((-FAR, [0, 7, 2]), (-1, [0, 7, 2]), (0, [0, 7, 2]), (1, [0, 7, 2]), (109, [0, 7, 2]),
                           (110, [0, 6]), (149, [0, 6]), (150, None), (FAR, None)):
-            self.assert_mended(usual_book(1), now, runs)
+            self.assert_mended(book_to_mend(1), now, runs)
         for now, runs in ((-1, [5]), (0, [0, 6]), (149, [0, 6]), (150, None)):
-            self.assert_mended(usual_book(1, 7), now, runs)
+            self.assert_mended(book_to_mend(1, 7), now, runs)
         for now, runs in ((-1, [5]), (0, [0, 3, 4]), (129, [0, 3, 4]), (130, None)):
-            self.assert_mended(usual_book(1, 6, 7), now, runs)
+            self.assert_mended(book_to_mend(1, 6, 7), now, runs)
         for now, runs in ((-1, [0, 3, 4]), (0, [0, 3, 4]), (129, [0, 3, 4]), (130, None)):
-            self.assert_mended(usual_book(1, 5, 6, 7), now, runs)
+            self.assert_mended(book_to_mend(1, 5, 6, 7), now, runs)
 
     def test_the_legs_ahead_of_the_fault_stay_once_they_have_left(self):
         for now, runs in ((-1, [0, 1, 4]), (0, [0, 1, 4]), (109, [0, 1, 4]), (110, [0, 1, 4]), (229, [0, 1, 4]),
                           (230, None)):
-            self.assert_mended(usual_book(2), now, runs)
+            self.assert_mended(book_to_mend(2), now, runs)
         for now, runs in ((-1, [5]), (0, [0, 6]), (109, [0, 6]), (110, None)):
-            self.assert_mended(usual_book(2, 4), now, runs)
+            self.assert_mended(book_to_mend(2, 4), now, runs)
 
     def test_nothing_stays_where_the_first_leg_is_gone(self):
         for now, runs in ((-1, [5]), (0, [5]), (149, [5]), (150, None)):
-            self.assert_mended(usual_book(0), now, runs)
-        self.assert_mended(usual_book(0, 5), -1, None)
+            self.assert_mended(book_to_mend(0), now, runs)
+        self.assert_mended(book_to_mend(0, 5), -1, None)
 
     def test_a_slip_misses_the_next_leg(self):
-        book = usual_book()
+        book = book_to_mend()
         book.news(0, 1, "slip", 1)
         # 0 now leaves at 1 and comes at 101: from 111 on.
         for now, runs in ((0, [5]), (1, [0, 6]), (-1, [5])):
@@ -113,23 +93,23 @@ class MendTests(BookCase):
 
     def test_it_goes_on_from_the_coming_and_the_span_there(self):
         for leaves, runs in ((109, None), (110, [0, 8])):
-            book = usual_book(1, 3, 5, 6, 7)
+            book = book_to_mend(1, 3, 5, 6, 7)
             book.run("b", "d", leaves, 130, 1)
             for now in (0, 50, 108):
                 self.assert_mended(book, now, runs)
-        book = usual_book(1, 3, 5, 6, 7)
+        book = book_to_mend(1, 3, 5, 6, 7)
         book.run("b", "d", 120, 130, 1)
         self.assert_mended(book, 119, [0, 8])
         self.assert_mended(book, 120, None)
 
     def test_from_its_start_no_change_is_needed(self):
-        book = usual_book(0, 5)
+        book = book_to_mend(0, 5)
         book.run("a", "d", 3, 130, 1)
         self.assert_mended(book, 2, [8])
         self.assert_mended(book, 3, None)
 
     def test_runs_that_are_full(self):
-        book = usual_book(1)
+        book = book_to_mend(1)
         book.journey("y", "b", "c", [7])
         self.assert_mended(book, 0, [0, 6])
         book.journey("z", "b", "d", [6])
@@ -152,11 +132,11 @@ class MendTests(BookCase):
 
     def test_a_gone_run_of_its_own_is_not_taken(self):
         for now in (-1, 0):
-            self.assertNotIn(1, usual_book(1).mended("x", now))
-        self.assert_mended(usual_book(0, 1, 2, 3, 4, 5, 6, 7), -1, None)
+            self.assertNotIn(1, book_to_mend(1).mended("x", now))
+        self.assert_mended(book_to_mend(0, 1, 2, 3, 4, 5, 6, 7), -1, None)
 
     def test_kept_are_its_other_legs(self):
-        book = usual_book(1, 7)
+        book = book_to_mend(1, 7)
         # With 1 and 7 gone [5] and [0, 6] have one run each that is not kept; 5 comes sooner.
         self.assert_mended(book, -1, [5])
         book.news(5, 0, "slip", 101)
@@ -165,7 +145,7 @@ class MendTests(BookCase):
         self.assert_mended(book, -1, [5])
 
     def test_shared_are_those_that_it_shares_with_any_journey(self):
-        book = usual_book(1, 7)
+        book = book_to_mend(1, 7)
         book.journey("y", "c", "d", [2])
         self.assert_mended(book, -1, [5])
         book.share("x", "y", 2)
@@ -212,14 +192,14 @@ class MendTests(BookCase):
         self.assertEqual(book.mended("x", 0), None)
 
     def test_no_journey_goes_ahead_of_no_way(self):
-        book = usual_book(1)
+        book = book_to_mend(1)
         self.refused(NoJourney, book.mend, "y", 500)
         self.refused(NoJourney, book.mended, "y", 500)
         self.refused(NoWay, book.mend, "x", 500)
 
     def test_moments_of_forty_figures(self):
-        self.assert_mended(usual_book(1), -FAR, [0, 7, 2])
-        self.assert_mended(usual_book(1), FAR, None)
+        self.assert_mended(book_to_mend(1), -FAR, [0, 7, 2])
+        self.assert_mended(book_to_mend(1), FAR, None)
 
 
 class AnyMendTests(unittest.TestCase):

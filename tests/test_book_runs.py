@@ -4,7 +4,7 @@ import itertools
 import random
 import unittest
 
-from oracle import BookCase, four_places
+from cases import BookCase, four_places
 from wayhold.book import Book
 from wayhold.errors import Astray, BadClock, BadName, BadNews, BadSeats, BadTimes, Full, NoPlace, NoRun, Taken, Twice
 

@@ -93,24 +93,15 @@ class Book:
 
     def journey(self, name, start, goal, runs):
         """A journey by these runs, its legs."""
-        journeys = self.ledger.table("journey")
-        if not good_name(name):
-            raise BadName("a name has 1 to 12 small letters and figures")
-        if name in journeys:
-            raise Taken("a journey is called so")
-        self.need_place(start)
-        self.need_place(goal)
-        self.need_legs(start, goal, runs)
-        self.need_seats(runs, [])
-        if len(journeys) >= MOST_JOURNEYS:
-            raise Full("no more journeys fit into a book")
-        legs = tuple(runs)
-        self.ledger.enter(("journey", name, start, goal, legs), [("journey", name, (start, goal, legs))])
+        self.need_new_way(name, start, goal, runs)
+        self.need_whole(runs)
+        self.enter_journey(name, start, goal, runs)
 
     def turn(self, name, runs):
         """Other legs for a journey."""
         start, goal, legs = self.kept_journey(name)
-        self.need_legs(start, goal, runs)
+        self.need_way(start, goal, runs)
+        self.need_whole(runs)
         self.need_seats(runs, legs)
         self.ledger.enter(("turn", name, tuple(runs)), self.changes_to_legs(name, runs))
 
@@ -226,7 +217,7 @@ class Book:
         legs = self.kept_journey(name)[2]
         found = []
         for place, coming, leaving in waits(standing(self.rides_now(legs), self.spans())):
-            ahead = self.ledger.table("place")[place][0]
+            ahead = self.kept_place(place)[0]
             found.extend([(place, day) for day in nights(coming, leaving, ahead)])
         return sorted(found)
 
@@ -264,12 +255,25 @@ class Book:
         if run not in self.ledger.table("run"):
             raise NoRun("no run has this number")
 
-    def need_legs(self, start, goal, runs):
-        """Refuses runs unless they lead from the start to the goal, without a fault as they go now."""
+    def need_new_way(self, name, start, goal, runs):
+        """Refuses a new journey unless its name is free and the places of its runs lead so."""
+        if not good_name(name):
+            raise BadName("a name has 1 to 12 small letters and figures")
+        if name in self.ledger.table("journey"):
+            raise Taken("a journey is called so")
+        self.need_place(start)
+        self.need_place(goal)
+        self.need_way(start, goal, runs)
+
+    def need_way(self, start, goal, runs):
+        """Refuses runs unless their places lead from the start to the goal."""
         # A number that no run has is refused by told, ahead of all else.
         hops = [self.told(run)[:2] for run in runs]
         if not leads(start, goal, hops):
             raise Astray("the runs don't lead from the start to the goal")
+
+    def need_whole(self, runs):
+        """Refuses runs that have a fault as they go now."""
         fault = first_fault(self.rides_now(runs), self.spans())
         if fault is not None:
             raise Broken(fault[0], fault[1])
@@ -279,6 +283,27 @@ class Book:
         for run in runs:
             if run not in own and self.free(run) < 1:
                 raise Full("a run has no free seat")
+
+    def enter_journey(self, name, start, goal, runs):
+        """Enters a journey, where there is room for it."""
+        self.need_seats(runs, [])
+        if len(self.ledger.table("journey")) >= MOST_JOURNEYS:
+            raise Full("no more journeys fit into a book")
+        legs = tuple(runs)
+        self.ledger.enter(("journey", name, start, goal, legs), [("journey", name, (start, goal, legs))])
+
+    def journey_as_read(self, name, start, goal, runs):
+        """A journey out of rows: news may have brought it a fault since it was booked, so none is asked."""
+        self.need_new_way(name, start, goal, runs)
+        # A whole journey has no run twice by itself: a run leaves ahead of its own coming.
+        if len(set(runs)) < len(runs):
+            raise Twice("a run stands twice in the journey")
+        self.enter_journey(name, start, goal, runs)
+
+    def kept_place(self, name):
+        """(ahead, span) of a place."""
+        self.need_place(name)
+        return self.ledger.table("place")[name]
 
     def kept_journey(self, name):
         """(start, goal, tuple of runs) of a journey."""

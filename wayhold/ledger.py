@@ -52,6 +52,11 @@ class Ledger:
         self.done.append((deed, steps))
         return deed
 
+    def forget(self):
+        """Leaves the rows as they are, with nothing to take back or to do again."""
+        self.done = []
+        self.undone = []
+
     def copied(self):
         """A ledger of its own with the same rows and deeds."""
         other = Ledger()

@@ -1,13 +1,15 @@
-"""Points [1] and [11] to [17]: any deeds, right and wrong ones, against a plain book that goes by the words."""
+"""Deeds drawn by chance, right and wrong ones, done in a book and in the plain one beside it."""
 
-import copy
 import random
 import unittest
 
-from oracle import PlainBook, answer, deeds_to_come, seen
+from cases import answer, deeds_to_come, seen
+from oracle import PlainBook
+from oracle_asks import paper_fits
+from wayhold.asks import barred
 from wayhold.book import Book
 
-FAR = 10 ** 39 + 4321
+FAR = 10 ** 59 + 4321
 NAMES = ("j0", "j1", "j2", "j3", "j4")
 PLACES = ("a", "b", "c", "d")
 KINDS = (
@@ -19,22 +21,24 @@ KINDS = (
 class AnyDeeds:
     """Draws deeds that often fit the book, and sometimes don't."""
 
-    def __init__(self, chance, plain):
+    def __init__(self, chance, plain, names=NAMES, places=PLACES):
         self.chance = chance
         self.plain = plain
+        self.names = names
+        self.places = places
 
     def rarely(self, other, usual):
         return other if self.chance.random() < 0.04 else usual
 
     def new_name(self):
-        names = [name for name in NAMES if name not in self.plain.now["journey"]]
-        return self.rarely(self.chance.choice(("", "J", "j0")), self.chance.choice(names or NAMES))
+        names = [name for name in self.names if name not in self.plain.now["journey"]]
+        return self.rarely(self.chance.choice(("", "J", "j0")), self.chance.choice(names or self.names))
 
     def name(self):
-        return self.rarely("nobody", self.chance.choice(list(self.plain.now["journey"]) or NAMES))
+        return self.rarely("nobody", self.chance.choice(list(self.plain.now["journey"]) or self.names))
 
     def place(self):
-        return self.rarely("e", self.chance.choice(PLACES))
+        return self.rarely("e", self.chance.choice(self.places))
 
     def run(self):
         many = self.plain.many()
@@ -67,9 +71,9 @@ class AnyDeeds:
         return (kind,) + getattr(self, "draw_" + kind)()
 
     def draw_place(self):
-        name = "e" if self.chance.random() < 0.2 else self.chance.choice(PLACES)
-        clock = self.chance.choice((0, 900, -900, 61)), self.chance.choice((0, 10, 1000))
-        return (self.rarely("", name),) + self.rarely((901, 0), clock)
+        name = "e" if self.chance.random() < 0.2 else self.chance.choice(self.places)
+        clock = self.chance.choice((0, 900, -900, 61, 61, 901)), self.chance.choice((0, 10, 1000, 1000, -1))
+        return (self.rarely("", name),) + clock
 
     def draw_run(self):
         leaves = 100 * self.chance.randint(0, 40)
@@ -134,7 +138,7 @@ class AnyDeeds:
     draw_redo = draw_undo
 
 
-class AnyBookTests(unittest.TestCase):
+class BothCase(unittest.TestCase):
     def do_both(self, book, plain, deed):
         if deed[0] in ("undo", "redo"):
             told = answer(getattr(plain, deed[0]))
@@ -148,56 +152,34 @@ class AnyBookTests(unittest.TestCase):
                 part.append(-5)
         return told
 
-    def begun(self, chance, many):
+    def begun(self, chance, many, places=PLACES):
         """A book with all places and so many runs, and the plain one beside it."""
         book, plain = Book(), PlainBook()
-        for place in PLACES:
+        for place in places:
             self.do_both(book, plain, ("place", place, chance.choice((0, 60, -60)), chance.choice((0, 10))))
         while plain.many() < many:
-            self.do_both(book, plain, ("run",) + AnyDeeds(chance, plain).draw_run())
+            self.do_both(book, plain, ("run",) + AnyDeeds(chance, plain, places=places).draw_run())
         return book, plain
 
-    def assert_alike(self, book, plain, moments):
-        asked = (NAMES + ("nobody",), moments, (-FAR, -3, 0, 7, FAR))
+    def drawn(self, seed, many, most, turns):
+        """A book with so many runs at first, at most so many later, behind deeds by chance; and what draws them."""
+        chance = random.Random(seed)
+        book, plain = self.begun(chance, many)
+        draws = AnyDeeds(chance, plain)
+        for turn in range(turns):
+            deed = draws.draw()
+            if not (deed[0] == "run" and plain.many() >= most):
+                self.do_both(book, plain, deed)
+        return book, plain, draws
+
+    def assert_alike(self, book, plain, moments, names=NAMES, places=PLACES):
+        """All questions of all modules tell the same of both, and any paper holds."""
+        asked = (names + ("nobody",), moments, (-FAR, -3, 0, 7, FAR), places + ("e", ""))
         self.assertEqual(seen(book, *asked), seen(plain, *asked))
         self.assertEqual(deeds_to_come(book), deeds_to_come(plain))
-
-    def test_any_deeds(self):
-        counts = {}
-        for seed in range(20):
-            chance = random.Random(seed)
-            book, plain = self.begun(chance, seed % 9)
-            draws = AnyDeeds(chance, plain)
-            for turn in range(220):
-                deed = draws.draw()
-                if deed[0] == "run" and plain.many() >= 11:
-                    continue
-                told = self.do_both(book, plain, deed)
-                word = told[1] if told[0] == "refused" else "let"
-                counts[deed[0], word] = counts.get((deed[0], word), 0) + 1
-                self.assert_alike(book, plain, (draws.moment(),) if turn % 8 == 0 else ())
-        for kind in set(KINDS):
-            self.assertTrue(counts.get((kind, "let"), 0) > 10, (kind, counts))
-        refused = {}
-        for (kind, word), many in counts.items():
-            refused[word] = refused.get(word, 0) + many
-        for word in ("Broken", "Astray", "Full", "NoRun", "NoJourney", "NoLeg", "NoWay", "Twice", "Taken", "NoDeed"):
-            self.assertTrue(refused.get(word, 0) > 5, (word, counts))
-
-    def test_twins_go_their_own_ways(self):
-        for seed in range(6):
-            chance = random.Random(100 + seed)
-            pairs = [self.begun(chance, 7)]
-            for turn in range(120):
-                book, plain = chance.choice(pairs)
-                deed = AnyDeeds(chance, plain).draw()
-                if not (deed[0] == "run" and plain.many() >= 9):
-                    self.do_both(book, plain, deed)
-                if turn % 40 == 20:
-                    pairs.append((book.twin(), copy.deepcopy(plain)))
-                for book, plain in pairs:
-                    self.assert_alike(book, plain, ())
-
-
-if __name__ == "__main__":
-    unittest.main()
+        for name in plain.now["journey"]:
+            for moment in moments:
+                paper = barred(book, name, moment)
+                self.assertTrue(paper_fits(plain, name, moment, paper), (name, moment, paper))
+        for moment in moments:
+            self.assertEqual(answer(barred, book, "nobody", moment), ("refused", "NoJourney", {}))

@@ -205,6 +205,122 @@ def walk_faults(tree):
     return faults + ["L23" for node in ast.walk(tree) if lazy(node) and not any(node is one for one in let)]
 
 
+def parents_of(tree):
+    """From each node to the one that it stands in."""
+    return {child: node for node in ast.walk(tree) for child in ast.iter_child_nodes(node)}
+
+
+def set_faults(tree):
+    """Sets anywhere but behind in, beside == or !=, or straight within sorted or len; kept ones are not used here."""
+    faults, parents = [], parents_of(tree)
+    for node in ast.walk(tree):
+        made = isinstance(node, ast.Call) and isinstance(node.func, ast.Name) and node.func.id in ("set", "frozenset")
+        if made or isinstance(node, (ast.Set, ast.SetComp)):
+            above = parents[node]
+            asked = isinstance(above, ast.Compare) and node in above.comparators
+            counted = isinstance(above, ast.Call) and isinstance(above.func, ast.Name) and not above.keywords
+            if not asked and not (counted and above.func.id in ("sorted", "len")):
+                faults.append("L24")
+    return faults
+
+
+def class_use_faults(tree, classes):
+    """Classes that are kept, handed on or shown."""
+    faults, parents = [], parents_of(tree)
+    for node in ast.walk(tree):
+        if isinstance(node, ast.Name) and node.id in classes:
+            above = parents[node]
+            if isinstance(above, ast.Tuple):
+                above = parents[above]
+            called = isinstance(above, ast.Call) and (above.func is node or names_of(above.func) == ["isinstance"])
+            called = called and node not in above.args[:1]
+            started = isinstance(above, ast.Attribute) and above.attr == "__init__"
+            if not (called or started or isinstance(above, (ast.ClassDef, ast.ExceptHandler))):
+                faults.append("L18")
+    return faults
+
+
+def error_faults(tree):
+    """Errors of Python's own that are taken, and what is not raised on the spot; the package needs neither."""
+    faults, parents = [], parents_of(tree)
+    for node in ast.walk(tree):
+        if isinstance(node, ast.ExceptHandler) and node.type is not None:
+            faults += ["L19" for one in ast.walk(node.type) for name in names_of(one) if name in BUILTINS]
+        if isinstance(node, ast.Raise):
+            made = isinstance(node.exc, ast.Call) and isinstance(node.exc.func, ast.Name)
+            bare = node.exc is None and isinstance(parents[node], ast.ExceptHandler)
+            since = node.cause is None or (isinstance(node.cause, ast.Constant) and node.cause.value is None)
+            if not (made or bare) or not since:
+                faults.append("L19")
+    return faults
+
+
+KEYWORDS = {"sorted": {"key", "reverse"}, "min": {"key", "default"}, "max": {"key", "default"}, "sum": {"start"},
+            "enumerate": {"start"}, "zip": {"strict"}}
+
+
+def keyword_faults(tree):
+    """Keywords at Python's own names and methods."""
+    faults = []
+    for node in ast.walk(tree):
+        if isinstance(node, ast.Call):
+            given = {one.arg for one in node.keywords}
+            if isinstance(node.func, ast.Name) and node.func.id in BUILTINS:
+                faults += ["L22" for one in given - KEYWORDS.get(node.func.id, set())]
+            if isinstance(node.func, ast.Attribute) and node.func.attr in METHODS and given:
+                faults.append("L25")
+    return faults
+
+
+def own_value_faults(tree):
+    """Names of Python's own that are kept as values, and methods that are handed on."""
+    faults, parents = [], parents_of(tree)
+    for node in ast.walk(tree):
+        above = parents.get(node)
+        if isinstance(node, ast.Name) and node.id in OWN_NAMES and isinstance(node.ctx, ast.Load):
+            key = isinstance(above, ast.keyword) and above.arg == "key"
+            kind = isinstance(above, (ast.Call, ast.ClassDef, ast.ExceptHandler, ast.Attribute, ast.Tuple, ast.Raise))
+            handed = isinstance(above, ast.Call) and node in above.args and names_of(above.func) != ["isinstance"]
+            if not (key or kind) or handed:
+                faults.append("L22")
+        if isinstance(node, ast.Attribute) and node.attr in METHODS and isinstance(node.ctx, ast.Load):
+            if not (isinstance(above, ast.Call) and above.func is node):
+                faults.append("L25")
+    return faults
+
+
+def kept_top_faults(tree):
+    """Lists and dicts of a file's top that are changed, or handed on as they are."""
+    tops = {
+        node.targets[0].id for node in tree.body
+        if isinstance(node, ast.Assign) and isinstance(node.value, (ast.List, ast.Dict))}
+    faults, parents = [], parents_of(tree)
+    for node in ast.walk(tree):
+        if isinstance(node, ast.Assign) and node in tree.body:
+            inner = list(ast.walk(node.value))[1:]
+            faults += ["L15" for one in inner if isinstance(one, (ast.List, ast.Dict))]
+        if isinstance(node, ast.Name) and node.id in tops and isinstance(node.ctx, ast.Load):
+            above = parents[node]
+            asked = isinstance(above, ast.Subscript) and isinstance(above.ctx, ast.Load)
+            read = isinstance(above, ast.Attribute) and above.attr not in CHANGES
+            walked = isinstance(above, (ast.For, ast.comprehension, ast.Compare))
+            copied = isinstance(above, ast.Call) and {*names_of(above.func)} & {*"list dict len sorted tuple".split()}
+            if not (asked or read or walked or copied):
+                faults.append("L15")
+    return faults
+
+
+def dunder_faults(tree):
+    """__init__ that gives something back; other methods with two underscores are not used here."""
+    faults = []
+    for node in ast.walk(tree):
+        if isinstance(node, ast.FunctionDef) and node.name == "__init__":
+            faults += ["L28" for one in ast.walk(node) if isinstance(one, ast.Return) and one.value is not None]
+        elif isinstance(node, ast.FunctionDef) and node.name.startswith("__"):
+            faults.append("L28")
+    return faults
+
+
 def takes(node):
     """The least and the most things that a def is handed."""
     many = len(node.args.args) + len(node.args.kwonlyargs)
@@ -226,11 +342,13 @@ def call_faults(tree, defs, methods):
     return faults
 
 
-def rule_faults(text, own_methods=frozenset()):
+def rule_faults(text, own_methods=frozenset(), classes=()):
     """The numbers of the rules that a file breaks."""
     tree = ast.parse(text)
     faults = size_faults(text, tree) + sign_faults(text) + top_faults(tree) + import_faults(tree)
-    faults += shadow_faults(tree) + walk_faults(tree)
+    faults += shadow_faults(tree) + walk_faults(tree) + set_faults(tree) + error_faults(tree) + keyword_faults(tree)
+    faults += own_value_faults(tree) + kept_top_faults(tree) + dunder_faults(tree)
+    faults += class_use_faults(tree, {node.name for node in tree.body if isinstance(node, ast.ClassDef)} | set(classes))
     for node in ast.walk(tree):
         faults += name_faults(node) + expression_faults(node, own_methods)
         if isinstance(node, ast.ClassDef):
@@ -251,6 +369,10 @@ def package_files():
 
 def methods_of(files):
     return {row.name for node, row in rows_of_classes(files) if isinstance(row, ast.FunctionDef)}
+
+
+def classes_of(files):
+    return {node.name for text in files.values() for node in ast.parse(text).body if isinstance(node, ast.ClassDef)}
 
 
 def rows_of_classes(files):
@@ -299,7 +421,7 @@ class PackageTests(unittest.TestCase):
         files = package_files()
         for name, text in files.items():
             with self.subTest(name):
-                self.assertEqual(rule_faults(text, methods_of(files)), [])
+                self.assertEqual(rule_faults(text, methods_of(files), classes_of(files)), [])
 
     def test_no_name_is_a_method_here_and_a_value_there(self):
         files = package_files()
@@ -361,6 +483,19 @@ class SampleTests(unittest.TestCase):
         ("L23", "def f(x):\n    for k in x:\n        x.append(k)\n"),
         ("L23", "def f(x):\n    for k, y in x.items():\n        x.pop(k)\n"),
         ("L23", "def f(x):\n    return len(zip(x, x))\n"),
+        ("L15", "A = [1]\ndef f(x):\n    A.append(x)\n"), ("L15", "A = {}\ndef f(x):\n    A[x] = 1\n"),
+        ("L15", "A = [1]\ndef f(x):\n    return A\n"), ("L15", "A = [[1]]\n"), ("L15", "A = {1: []}\n"),
+        ("L18", "class A:\n    pass\ndef f(x):\n    return [A]\n"),
+        ("L18", "class A:\n    pass\ndef f(x):\n    x(A)\n"), ("L19", "def f(x):\n    raise x\n"),
+        ("L19", "def f(x):\n    raise x.wrong()\n"), ("L19", "def f(x):\n    raise\n"),
+        ("L19", "def f(x):\n    try:\n        return g(x)\n    except ValueError:\n        return 0\n"),
+        ("L22", "def f(x):\n    return list(x, key=1)\n"), ("L22", "def f(x):\n    y = len\n    return y(x)\n"),
+        ("L22", "def f(x):\n    return g(len, x)\n"), ("L25", "def f(x):\n    return x.split(sep=',')\n"),
+        ("L25", "def f(x):\n    return sorted(x, key=x.index)\n"),
+        ("L24", "def f(x):\n    return set(x)\n"), ("L24", "def f(x):\n    for k in {1, x}:\n        pass\n"),
+        ("L24", "def f(x):\n    y = {k for k in x}\n    return y\n"), ("L24", "def f(x):\n    return list(set(x))\n"),
+        ("L28", "class A:\n    def __init__(self):\n        return None\n"),
+        ("L28", "class A:\n    def __len__(self):\n        return 3\n"),
     )
 
     def test_each_sample_is_found(self):
@@ -379,6 +514,15 @@ class SampleTests(unittest.TestCase):
         files = {"a.py": "class A:\n    def b(self):\n        self.c = self.d.b()\n"}
         self.assertEqual(values_of(files), ({"c"}, {"d"}))
         self.assertEqual(methods_of(files), {"b"})
+
+    def test_sets_classes_and_errors_where_they_may_stand(self):
+        text = "from wayhold.errors import BadText, WayError\n\nWORDS = {'a': (1, 2)}\n\n\nclass Box(WayError):\n" \
+               "    def __init__(self, many):\n        self.many = many\n\n\ndef f(x, y):\n    try:\n" \
+               "        g(x)\n    except (Box, BadText):\n        raise\n    except WayError:\n" \
+               "        raise BadText(list(WORDS).index(x)) from None\n    if x in {1, y} or len(set(y)) < len(y):\n" \
+               "        return sorted({k for k in y})\n" \
+               "    return Box(WORDS[x]) if isinstance(x, Box) else max(y, key=len)\n"
+        self.assertEqual(rule_faults(text, classes={"BadText", "WayError"}), [])
 
     def test_plain_code_is_let(self):
         text = '"""Words."""\n\nfrom wayhold.errors import WayError\n\nMANY = 3\n\n\ndef f(x, *, y=MANY):\n' \

@@ -115,6 +115,20 @@ class FormTests(BadRowCase):
                                  "9" * 61, "0" * 61, "1" * 1900, "1,0", "(1)", "1/1", "l", "O"):
                         self.assert_bad(with_word(at, word_at, word), at)
 
+    def test_signs_that_are_no_figures(self):
+        signs = [chr(code) for code in range(ord(" "), ord("~") + 1) if chr(code) not in "0123456789%"]
+        for at, word_at in ((0, 2), (5, 5), (11, 2), (15, 5), (19, 3), (24, 3)):
+            old = ROWS[at].split(" ")[word_at]
+            for sign in signs:
+                self.assert_bad(with_word(at, word_at, old + sign), at)
+                self.assert_bad(with_word(at, word_at, sign), at)
+                if sign != "-" or old == "0":
+                    self.assert_bad(with_word(at, word_at, sign + old), at)
+        for sign in signs:
+            if not "a" <= sign <= "z":
+                self.assert_bad(with_word(0, 1, "a" + sign), 0)
+                self.assert_bad(with_word(12, 1, sign + "j"), 12)
+
     def test_sixty_figures_and_one_more(self):
         for at, word_at in ((5, 5), (10, 2), (11, 2), (24, 3)):
             for sign in ("", "-"):
